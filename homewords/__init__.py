@@ -1,0 +1,1 @@
+"""Homewords: machine words changed in place, and a writer of programs from tables."""

@@ -1,0 +1,58 @@
+"""The examples of the document, word for word."""
+
+import unittest
+
+from tests.examples import run_examples
+
+PART_A = """
+>>> from homewords.states import state_number
+>>> state_number(4, (5, 3, 8)), state_number(1, (0, 1, 1)), state_number(64, (0, 0, 1, 0)) == 2 ** 64
+(1336, 3, True)
+>>> from homewords.columns import agree, column_of, columns_of, depth, halved, low_part, state_of
+>>> columns_of(4, (5, 3, 8)), column_of((5, 3, 8), 0), column_of((5, 3, 8), 3), column_of((5, 3, 8), 9)
+((3, 2, 1, 4), 3, 4, 0)
+>>> state_of(3, (3, 2, 1, 4)), state_of(3, (7,)), state_of(4, (0, 8))
+((5, 3, 8), (1, 1, 1), (0, 0, 0, 2))
+>>> low_part((5, 3, 8), 2), low_part((5, 3, 8), 0), low_part((5, 3, 8), 7), halved((5, 3, 8), 1), halved((8, 4, 12), 2)
+((1, 3, 0), (0, 0, 0), (5, 3, 8), (2, 1, 4), (2, 1, 3))
+>>> agree(4, (5, 3, 8), (13, 3, 8)), agree(4, (5, 3, 8), (5, 3, 8)), agree(4, (5, 3, 8), (4, 3, 8)), agree(4, (5, 3, 8), (5, 1, 0))
+(3, 4, 0, 1)
+>>> depth(4, (5, 3, 8)), depth(4, (8, 4, 12)), depth(4, (0, 0, 0)), depth(64, (0, 2 ** 63, 0))
+(0, 2, 4, 63)
+"""
+
+PART_B = """
+>>> from homewords.deeds import done, undone
+>>> [done(3, (5, 6, 3), deed) for deed in (("add", 0, 1), ("xor", 0, 1), ("and", 0, 1, 2), ("one", 2))]
+[(3, 6, 3), (3, 6, 3), (7, 6, 3), (5, 6, 4)]
+>>> [undone(3, (5, 6, 0), deed) for deed in (("add", 0, 1), ("xor", 0, 1), ("and", 0, 1, 2), ("one", 2))]
+[(7, 6, 0), (3, 6, 0), (5, 6, 0), (5, 6, 7)]
+>>> from homewords.programs import language_of, length, sign_parity
+>>> swap = (("do", ("xor", 0, 1)), ("do", ("xor", 1, 0)), ("row", (("part", 0), ("part", 1), ("part", 0))))
+>>> idle = (("do", ("one", 0)), ("do", ("add", 1, 2)), ("do", ("and", 0, 1, 2)), ("row", (("times", ("part", 0), 0), ("back", ("part", 1)), ("times", ("part", 2), 3))))
+>>> length(swap), language_of(swap), sign_parity(swap), length(idle), language_of(idle), sign_parity(idle), language_of(idle[:1])
+(3, 'bits', 0, 4, 'sums', 1, 'all')
+>>> length((("times", ("row", ()), 10 ** 30),)), language_of((("row", ()),)), length((idle[0], ("times", ("part", 0), 10 ** 30))) == 10 ** 30
+(0, 'bits', True)
+>>> length((idle[0],) + tuple([("times", ("part", i), 10 ** 30) for i in range(11)]))
+raises TooMany
+>>> from homewords.runs import run
+>>> run(3, 4, swap, (5, 9, 2)), run(3, 4, idle, (5, 9, 2)), run(3, 4, idle + (("back", ("part", 3)),), (7, 7, 2))
+((9, 5, 2), (7, 7, 2), (5, 9, 2))
+>>> run(3, 64, (idle[1], ("times", ("part", 0), 5000)), (1, 2, 2 ** 63 + 3)) == (1, 15002, 2 ** 63 + 3)
+True
+>>> run(3, 4, (idle[1], ("times", ("part", 0), 5001)), (1, 2, 3))
+raises TooMany(5000)
+"""
+
+
+class ExamplesTest(unittest.TestCase):
+    def test_part_a(self):
+        run_examples(self, PART_A, {})
+
+    def test_part_b(self):
+        run_examples(self, PART_B, {})
+
+
+if __name__ == "__main__":
+    unittest.main()

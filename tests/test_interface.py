@@ -1,0 +1,154 @@
+"""The names, arguments and numbers of the interface, and what is promised everywhere [A3]."""
+
+import copy
+import importlib
+import inspect
+import unittest
+
+from homewords import bounds, errors
+from tests.samples import deeds, programs, states
+
+BOUNDS = {
+    "MAX_WORDS": 8, "MAX_WIDTH": 64, "MAX_BITS": 8, "MAX_TERMS": 1000, "MAX_ROW": 400, "MAX_DEEP": 12,
+    "MAX_TIMES": 10 ** 30, "MAX_STEPS": 5000, "MAX_LENGTH": 10 ** 300, "MAX_PAIRS": 300,
+}
+
+# Each function by its module, with the names of its arguments and some arguments for a call.
+FUNCTIONS = (
+    ("states", "state_number", {"w": 4, "state": (5, 3, 8)}),
+    ("columns", "column_of", {"state": (5, 3, 8), "k": 3}),
+    ("columns", "columns_of", {"w": 4, "state": (5, 3, 8)}),
+    ("columns", "state_of", {"n": 3, "columns": (3, 2, 1, 4)}),
+    ("columns", "low_part", {"state": (5, 3, 8), "k": 2}),
+    ("columns", "agree", {"w": 4, "one": (5, 3, 8), "other": (13, 3, 8)}),
+    ("columns", "depth", {"w": 4, "state": (8, 4, 12)}),
+    ("columns", "halved", {"state": (5, 3, 8), "k": 1}),
+    ("deeds", "done", {"w": 3, "state": (5, 6, 3), "deed": ("add", 0, 1)}),
+    ("deeds", "undone", {"w": 3, "state": (5, 6, 3), "deed": ("add", 0, 1)}),
+    ("programs", "length", {"program": (("do", ("one", 0)),)}),
+    ("programs", "language_of", {"program": (("do", ("one", 0)),)}),
+    ("programs", "sign_parity", {"program": (("do", ("and", 0, 1, 2)),)}),
+    ("runs", "run", {"n": 3, "w": 4, "program": (("do", ("one", 0)),), "state": (5, 9, 2)}),
+)
+
+VALUES = (
+    None, True, False, 0, 1, -1, 10 ** 400 - 1, "", "words\nof two lines, 5 % {0} \\", (), ("sees", 1, (0, 0), (2, 0)),
+    [], [True, [1, "x"]], {}, {"a": [None, {1: (2, 3)}], (1, 2): "b", None: True},
+)
+
+
+def nested(deep):
+    value = []
+    for _ in range(deep - 1):
+        value = [value]
+    return value
+
+
+class BoundsTest(unittest.TestCase):
+    def test_numbers(self):
+        told = {name: number for name, number in vars(bounds).items() if not name.startswith("_")}
+        self.assertEqual(told, BOUNDS)
+        self.assertEqual({number.__class__ for number in told.values()}, {int})
+
+
+class ErrorsTest(unittest.TestCase):
+    def test_families(self):
+        self.assertEqual(errors.WordsError.__bases__, (ValueError,))
+        for error in (errors.Unfit, errors.Barred, errors.TooMany):
+            self.assertEqual(error.__bases__, (errors.WordsError,))
+
+    def test_arguments(self):
+        for error, names in ((errors.Unfit, []), (errors.Barred, ["paper"]), (errors.TooMany, ["limit"])):
+            self.assertEqual(list(inspect.signature(error).parameters), names)
+
+    def test_unfit_is_made_without_arguments(self):
+        for caught in (errors.Unfit, errors.WordsError, ValueError):
+            with self.assertRaises(caught):
+                raise errors.Unfit()
+
+    def test_values_are_kept_as_passed(self):
+        for value in VALUES + (nested(40), list(range(4000))):
+            before = copy.deepcopy(value)
+            for made, name in (
+                (errors.Barred(value), "paper"), (errors.Barred(paper=value), "paper"),
+                (errors.TooMany(value), "limit"), (errors.TooMany(limit=value), "limit"),
+            ):
+                self.assertIs(getattr(made, name), value)
+                self.assertEqual(vars(made), {name: before})
+                self.assertIsInstance(str(made), str)
+
+    def test_caught_by_each_name(self):
+        for error in (errors.Barred, errors.TooMany):
+            for caught in (error, errors.WordsError, ValueError):
+                with self.assertRaises(caught) as found:
+                    raise error(("odd",))
+                self.assertEqual(list(vars(found.exception).values()), [("odd",)])
+
+    def test_own_errors_are_told_apart(self):
+        self.assertNotIsInstance(errors.Barred(1), errors.TooMany)
+        self.assertNotIsInstance(errors.TooMany(1), errors.Barred)
+        self.assertNotIsInstance(errors.Unfit(), errors.Barred)
+
+
+class FunctionsTest(unittest.TestCase):
+    def called(self):
+        for module, name, arguments in FUNCTIONS:
+            yield getattr(importlib.import_module("homewords." + module), name), arguments
+
+    def test_each_stands_in_its_own_file(self):
+        for module, name, _ in FUNCTIONS:
+            function = getattr(importlib.import_module("homewords." + module), name)
+            self.assertTrue(inspect.isfunction(function))
+            self.assertEqual((function.__module__, function.__name__), ("homewords." + module, name))
+
+    def test_names_of_arguments(self):
+        for function, arguments in self.called():
+            self.assertEqual(list(inspect.signature(function).parameters), list(arguments))
+
+    def test_by_place_and_by_name(self):
+        for function, arguments in self.called():
+            by_place = function(*arguments.values())
+            self.assertEqual(function(**arguments), by_place)
+            self.assertEqual(function(**dict(reversed(list(arguments.items())))), by_place)
+
+    def test_kinds_of_results(self):
+        tuples = ("columns_of", "state_of", "low_part", "halved", "done", "undone", "run")
+        for function, arguments in self.called():
+            result = function(**arguments)
+            kind = tuple if function.__name__ in tuples else str if function.__name__ == "language_of" else int
+            self.assertIs(result.__class__, kind)
+            if kind is tuple:
+                self.assertEqual({item.__class__ for item in result}, {int})
+
+    def test_equal_calls_twice_and_arguments_stay(self):
+        for function, arguments in self.called():
+            before = repr(arguments)
+            first = function(**arguments)
+            kept = repr(first)
+            self.assertEqual(function(**copy.deepcopy(arguments)), first)
+            self.assertEqual((repr(arguments), repr(first)), (before, kept))
+
+    def test_programs_twice(self):
+        run = importlib.import_module("homewords.runs").run
+        for program in programs(3, 30):
+            before = repr(program)
+            results = [run(3, 5, program, state) for state in states(3, 5)]
+            again = [run(3, 5, copy.deepcopy(program), state) for state in states(3, 5)]
+            self.assertEqual((again, repr(program)), (results, before))
+
+    def test_equal_calls_raise_equal_errors(self):
+        run = importlib.import_module("homewords.runs").run
+        length = importlib.import_module("homewords.programs").length
+        deed = ("do", deeds(3)[0])
+        endless = (deed,) + tuple(("times", ("part", place), 10 ** 30) for place in range(11))
+        for _ in range(2):
+            with self.assertRaises(errors.TooMany) as caught:
+                length(endless)
+            self.assertEqual(vars(caught.exception), {"limit": 10 ** 300})
+            with self.assertRaises(errors.TooMany) as caught:
+                run(3, 4, endless, (1, 2, 3))
+            self.assertEqual(vars(caught.exception), {"limit": 5000})
+
+
+if __name__ == "__main__":
+    unittest.main()

@@ -1,0 +1,90 @@
+"""The rules of LANGUAGE.md that can be seen from the files of the package."""
+
+import ast
+import pathlib
+import unittest
+
+PACKAGE = pathlib.Path(__file__).resolve().parent.parent / "homewords"
+BARRED = (
+    ast.Global, ast.AsyncFunctionDef, ast.AsyncFor, ast.AsyncWith, ast.Await, ast.Import, ast.Set, ast.SetComp,
+    ast.Div, ast.Try, ast.With,
+)
+BUILTINS = (
+    "len", "range", "enumerate", "zip", "min", "max", "sum", "abs", "sorted", "reversed", "int", "str", "bool", "list",
+    "tuple", "dict", "isinstance", "any", "all", "divmod", "super", "ValueError",
+)
+
+
+def files():
+    return sorted(path for path in PACKAGE.rglob("*") if "__pycache__" not in path.parts and path.is_file())
+
+
+def bound_names(tree):
+    """All names that the file binds or that are its functions' own."""
+    found = set(BUILTINS)
+    for node in ast.walk(tree):
+        if isinstance(node, (ast.FunctionDef, ast.ClassDef)):
+            found.add(node.name)
+        elif isinstance(node, ast.arg):
+            found.add(node.arg)
+        elif isinstance(node, ast.alias):
+            found.add(node.name)
+        elif isinstance(node, ast.Name) and isinstance(node.ctx, ast.Store):
+            found.add(node.id)
+    return found
+
+
+class LanguageTest(unittest.TestCase):
+    def test_files(self):
+        self.assertTrue(files())
+        for path in files():
+            self.assertRegex(path.name, r"^[a-z0-9_]+\.py$")
+
+    def test_sizes_and_signs(self):
+        for path in files():
+            text = path.read_text(encoding="utf-8")
+            rows = text.split("\n")
+            self.assertLessEqual(len(rows), 400, path)
+            self.assertLessEqual(max(len(row) for row in rows), 120, path)
+            self.assertEqual([sign for sign in text if not (" " <= sign <= "~" or sign == "\n")], [], path)
+            for node in ast.walk(ast.parse(text)):
+                if isinstance(node, ast.FunctionDef):
+                    self.assertLessEqual(node.end_lineno - node.lineno + 1, 40, (path, node.name))
+
+    def test_module_level(self):
+        allowed = (ast.Expr, ast.ImportFrom, ast.FunctionDef, ast.ClassDef, ast.Assign)
+        for path in files():
+            for node in ast.parse(path.read_text(encoding="utf-8")).body:
+                self.assertIsInstance(node, allowed, path)
+                if isinstance(node, ast.Expr):
+                    self.assertIsInstance(node.value, ast.Constant, path)
+
+    def test_imports(self):
+        for path in files():
+            for node in ast.walk(ast.parse(path.read_text(encoding="utf-8"))):
+                if isinstance(node, ast.ImportFrom):
+                    self.assertEqual(node.level, 0, path)
+                    self.assertTrue((PACKAGE.parent / (node.module.replace(".", "/") + ".py")).is_file(), path)
+                    self.assertEqual([alias.asname for alias in node.names], [None] * len(node.names), path)
+
+    def test_expressions(self):
+        for path in files():
+            for node in ast.walk(ast.parse(path.read_text(encoding="utf-8"))):
+                self.assertNotIsInstance(node, BARRED, path)
+                if isinstance(node, ast.Constant):
+                    self.assertNotIsInstance(node.value, (float, complex), path)
+                if isinstance(node, ast.BinOp) and isinstance(node.op, ast.Pow):
+                    self.assertIsInstance(node.right, ast.Constant, path)
+                    self.assertTrue(0 <= node.right.value <= 64, path)
+
+    def test_names(self):
+        for path in files():
+            tree = ast.parse(path.read_text(encoding="utf-8"))
+            known = bound_names(tree)
+            for node in ast.walk(tree):
+                if isinstance(node, ast.Name):
+                    self.assertIn(node.id, known, path)
+
+
+if __name__ == "__main__":
+    unittest.main()

@@ -1,4 +1,4 @@
-"""The numbers of states."""
+"""States and their numbers."""
 
 
 def state_number(w, state):
@@ -7,3 +7,14 @@ def state_number(w, state):
     for word in state:
         number = (number << w) + word
     return number
+
+
+def state_at(n, w, number):
+    """The state of n words of w bits that has this number."""
+    top = (1 << w) - 1
+    return tuple([(number >> (w * place)) & top for place in reversed(range(n))])
+
+
+def all_states(n, w):
+    """All states of n words of w bits, in the order of their numbers."""
+    return [state_at(n, w, number) for number in range(1 << (n * w))]

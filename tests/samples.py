@@ -6,6 +6,8 @@ import random
 WIDTHS = (1, 2, 3, 63, 64)
 COUNTS = (3, 4, 5, 6, 7, 8)
 EMPTY = ("row", ())
+# All n and w of which there are tables.
+SIZES = ((3, 1), (4, 1), (5, 1), (6, 1), (7, 1), (8, 1), (3, 2), (4, 2))
 
 
 def states(n, w, many=6):
@@ -96,3 +98,65 @@ def within(term, kind, deep):
 def chain(first, following, many):
     """A program of many terms: the first one, and each other one of the place ahead."""
     return (first,) + tuple(following(("part", place)) for place in range(many - 1))
+
+
+def number_by_words(w, state):
+    """The number of the state: the last word counts ones, each one ahead 2 ** w times as much."""
+    return sum(word * (2 ** w) ** place for place, word in enumerate(reversed(state)))
+
+
+def table_by_steps(n, w, program):
+    """The table of the program, told from its deeds one by one."""
+    found = list(all_states(n, w))
+    for deed, sign in steps(program, program[-1]):
+        found = [deed_by_bits(w, state, deed, sign) for state in found]
+    return tuple(number_by_words(w, state) for state in found)
+
+
+def drawn_tables(n, w, many):
+    """Some tables of n and w, triangular or not."""
+    draw = random.Random(f"tables {n} {w}")
+    places = range(2 ** (n * w))
+    return [tuple(draw.sample(places, len(places))) for _ in range(many)]
+
+
+def bit(x, k):
+    return x // 2 ** k % 2
+
+
+def column_by_bits(state, k):
+    return sum(bit(word, k) * 2 ** place for place, word in enumerate(state))
+
+
+def drawn_moves(draw, n, w):
+    """For each level and low part a drawn rearrangement of columns: a dict by pairs (level, low part)."""
+    columns = range(2 ** n)
+    return {
+        (k, low): tuple(draw.sample(columns, len(columns))) for k in range(w) for low in all_states(n, k)
+    }
+
+
+def table_by_moves(n, w, moves):
+    """The triangular table that moves columns so."""
+    found = []
+    for state in all_states(n, w):
+        image = [0] * n
+        for k in range(w):
+            low = tuple(word % 2 ** k for word in state)
+            column = moves[k, low][column_by_bits(state, k)]
+            image = [word + bit(column, place) * 2 ** k for place, word in enumerate(image)]
+        found.append(number_by_words(w, image))
+    return tuple(found)
+
+
+def triangular_tables(n, w, many):
+    """Some triangular tables of n and w."""
+    draw = random.Random(f"triangular {n} {w}")
+    return [table_by_moves(n, w, drawn_moves(draw, n, w)) for _ in range(many)]
+
+
+def exchanged(table, one, other):
+    """The table with the images of two places exchanged."""
+    found = list(table)
+    found[one], found[other] = table[other], table[one]
+    return tuple(found)

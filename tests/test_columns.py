@@ -4,13 +4,9 @@ import random
 import unittest
 
 from homewords.columns import agree, column_of, columns_of, depth, halved, low_part, state_of
-from tests.samples import COUNTS, WIDTHS, all_states, states
+from tests.samples import COUNTS, WIDTHS, all_states, bit, states
 
 LEVELS = range(65)
-
-
-def bit(x, k):
-    return x // 2 ** k % 2
 
 
 def each_state():

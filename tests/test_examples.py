@@ -45,6 +45,38 @@ True
 raises TooMany(5000)
 """
 
+PART_C = """
+>>> from homewords.tables import both, deed_table, still, undone_table
+>>> still(3, 1), deed_table(3, 1, ("xor", 0, 1)), deed_table(3, 1, ("add", 0, 1)) == deed_table(3, 1, ("xor", 0, 1))
+((0, 1, 2, 3, 4, 5, 6, 7), (0, 1, 6, 7, 4, 5, 2, 3), True)
+>>> deed_table(3, 1, ("and", 0, 1, 2)), deed_table(3, 1, ("one", 2)), len(deed_table(3, 2, ("add", 0, 1))), deed_table(3, 2, ("add", 0, 1))[57]
+((0, 1, 2, 7, 4, 5, 6, 3), (1, 0, 3, 2, 5, 4, 7, 6), 64, 25)
+>>> turn = both(deed_table(3, 1, ("xor", 0, 1)), deed_table(3, 1, ("xor", 1, 2)))
+>>> turn, undone_table(turn), both(turn, turn)
+((0, 3, 6, 5, 4, 7, 2, 1), (0, 7, 6, 1, 4, 3, 2, 5), (0, 5, 2, 7, 4, 1, 6, 3))
+>>> from homewords.doing import led, table_of
+>>> deeds = (("do", ("xor", 0, 1)), ("do", ("xor", 1, 2)))
+>>> table_of(3, 1, (("row", deeds),)) == turn, table_of(3, 1, deeds + (("back", ("row", (("part", 0), ("part", 1)))),)) == undone_table(turn)
+(True, True)
+>>> table_of(3, 1, (("row", deeds), ("times", ("part", 0), 10 ** 30 - 2))) == both(turn, turn), table_of(3, 1, deeds) == deed_table(3, 1, ("xor", 1, 2))
+(True, True)
+>>> led(3, 1, turn, (0, 0, 1)), led(3, 2, deed_table(3, 2, ("add", 0, 1)), (3, 2, 1)), led(3, 2, still(3, 2), (3, 2, 1))
+((0, 1, 1), (1, 2, 1), (3, 2, 1))
+"""
+
+PART_D_LEVELS = """
+>>> from homewords.levels import level_signs, moved
+>>> from homewords.tables import deed_table, still
+>>> plus, both_bits, one = deed_table(3, 2, ("add", 0, 1)), deed_table(3, 2, ("and", 0, 1, 2)), deed_table(3, 2, ("one", 0))
+>>> moved(3, 2, plus, 0, (0, 0, 0)), moved(3, 2, plus, 1, (1, 1, 0)), moved(3, 2, both_bits, 1, (0, 0, 0))
+((0, 1, 3, 2, 4, 5, 7, 6), (1, 0, 2, 3, 5, 4, 6, 7), (0, 1, 2, 3, 4, 5, 7, 6))
+>>> level_signs(3, 2, both_bits, 0), level_signs(3, 2, both_bits, 1), level_signs(3, 2, plus, 1)
+((1,), (1, 1, 1, 1, 1, 1, 1, 1), (0, 0, 0, 0, 0, 0, 0, 0))
+>>> swapped = (16,) + still(3, 2)[1:16] + (0,) + still(3, 2)[17:]
+>>> level_signs(3, 2, swapped, 1)
+raises Unfit()
+"""
+
 
 class ExamplesTest(unittest.TestCase):
     def test_part_a(self):
@@ -52,6 +84,12 @@ class ExamplesTest(unittest.TestCase):
 
     def test_part_b(self):
         run_examples(self, PART_B, {})
+
+    def test_part_c(self):
+        run_examples(self, PART_C, {})
+
+    def test_part_d_levels(self):
+        run_examples(self, PART_D_LEVELS, {})
 
 
 if __name__ == "__main__":

@@ -6,7 +6,7 @@ import inspect
 import unittest
 
 from homewords import bounds, errors
-from tests.samples import deeds, programs, states
+from tests.samples import deeds, programs, states, triangular_tables
 
 BOUNDS = {
     "MAX_WORDS": 8, "MAX_WIDTH": 64, "MAX_BITS": 8, "MAX_TERMS": 1000, "MAX_ROW": 400, "MAX_DEEP": 12,
@@ -29,6 +29,19 @@ FUNCTIONS = (
     ("programs", "language_of", {"program": (("do", ("one", 0)),)}),
     ("programs", "sign_parity", {"program": (("do", ("and", 0, 1, 2)),)}),
     ("runs", "run", {"n": 3, "w": 4, "program": (("do", ("one", 0)),), "state": (5, 9, 2)}),
+    ("tables", "still", {"n": 4, "w": 2}),
+    ("tables", "deed_table", {"n": 3, "w": 2, "deed": ("add", 0, 1)}),
+    ("tables", "both", {"one": (0, 3, 6, 5, 4, 7, 2, 1), "other": (0, 1, 2, 7, 4, 5, 6, 3)}),
+    ("tables", "undone_table", {"table": (0, 3, 6, 5, 4, 7, 2, 1)}),
+    ("doing", "table_of", {"n": 3, "w": 2, "program": (("do", ("one", 0)), ("times", ("part", 0), 10 ** 30 - 1))}),
+    ("doing", "led", {"n": 3, "w": 1, "table": (0, 3, 6, 5, 4, 7, 2, 1), "state": (0, 0, 1)}),
+    ("levels", "moved", {"n": 3, "w": 1, "table": (0, 3, 6, 5, 4, 7, 2, 1), "k": 0, "low": (0, 0, 0)}),
+    ("levels", "level_signs", {"n": 3, "w": 1, "table": (0, 3, 6, 5, 4, 7, 2, 1), "k": 0}),
+)
+# Functions that return tuples of integers; the others return integers, but for language_of.
+TUPLES = (
+    "columns_of", "state_of", "low_part", "halved", "done", "undone", "run", "still", "deed_table", "both",
+    "undone_table", "table_of", "led", "moved", "level_signs",
 )
 
 VALUES = (
@@ -112,10 +125,9 @@ class FunctionsTest(unittest.TestCase):
             self.assertEqual(function(**dict(reversed(list(arguments.items())))), by_place)
 
     def test_kinds_of_results(self):
-        tuples = ("columns_of", "state_of", "low_part", "halved", "done", "undone", "run")
         for function, arguments in self.called():
             result = function(**arguments)
-            kind = tuple if function.__name__ in tuples else str if function.__name__ == "language_of" else int
+            kind = tuple if function.__name__ in TUPLES else str if function.__name__ == "language_of" else int
             self.assertIs(result.__class__, kind)
             if kind is tuple:
                 self.assertEqual({item.__class__ for item in result}, {int})
@@ -148,6 +160,39 @@ class FunctionsTest(unittest.TestCase):
             with self.assertRaises(errors.TooMany) as caught:
                 run(3, 4, endless, (1, 2, 3))
             self.assertEqual(vars(caught.exception), {"limit": 5000})
+
+    def test_tables_of_programs_twice(self):
+        table_of = importlib.import_module("homewords.doing").table_of
+        for program in programs(3, 30):
+            before = repr(program)
+            first = table_of(3, 2, program)
+            kept = repr(first)
+            self.assertEqual(table_of(3, 2, copy.deepcopy(program)), first)
+            self.assertEqual((repr(program), repr(first)), (before, kept))
+
+    def test_levels_twice(self):
+        levels = importlib.import_module("homewords.levels")
+        for table in triangular_tables(3, 2, 3):
+            before = repr(table)
+            for k, low in ((0, (0, 0, 0)), (1, (1, 0, 1))):
+                rows = [levels.moved(3, 2, table, k, low) for _ in range(2)]
+                rows.append(levels.moved(low=low, k=k, table=copy.deepcopy(table), w=2, n=3))
+                signs = [levels.level_signs(3, 2, table, k) for _ in range(2)]
+                signs.append(levels.level_signs(k=k, table=copy.deepcopy(table), w=2, n=3))
+                self.assertEqual((rows, signs), (rows[:1] * 3, signs[:1] * 3))
+            self.assertEqual(repr(table), before)
+
+    def test_unfit_twice(self):
+        levels = importlib.import_module("homewords.levels")
+        unfit = (16,) + tuple(range(1, 16)) + (0,) + tuple(range(17, 64))
+        before = repr(unfit)
+        for _ in range(2):
+            with self.assertRaises(errors.Unfit) as caught:
+                levels.moved(n=3, w=2, table=unfit, k=1, low=(0, 0, 0))
+            self.assertEqual(vars(caught.exception), {})
+            with self.assertRaises(errors.Unfit) as caught:
+                levels.level_signs(n=3, w=2, table=unfit, k=1)
+            self.assertEqual((vars(caught.exception), repr(unfit)), ({}, before))
 
 
 if __name__ == "__main__":

@@ -1,6 +1,7 @@
 """The rules of LANGUAGE.md that can be seen from the files of the package."""
 
 import ast
+import builtins
 import pathlib
 import unittest
 
@@ -84,6 +85,33 @@ class LanguageTest(unittest.TestCase):
             for node in ast.walk(tree):
                 if isinstance(node, ast.Name):
                     self.assertIn(node.id, known, path)
+
+    def test_names_mean_one_thing(self):
+        # A parameter or a local variable never has the name of a class, an import or a builtin of its file.
+        for path in files():
+            tree = ast.parse(path.read_text(encoding="utf-8"))
+            held = set(dir(builtins))
+            for node in ast.walk(tree):
+                if isinstance(node, ast.ImportFrom):
+                    held.update(alias.name for alias in node.names)
+                elif isinstance(node, ast.ClassDef):
+                    held.add(node.name)
+            for node in ast.walk(tree):
+                if isinstance(node, ast.arg):
+                    self.assertNotIn(node.arg, held, path)
+                elif isinstance(node, ast.Name) and isinstance(node.ctx, ast.Store):
+                    self.assertNotIn(node.id, held, path)
+
+    def test_no_two_files_import_from_each_other(self):
+        needed = {}
+        for path in files():
+            nodes = ast.walk(ast.parse(path.read_text(encoding="utf-8")))
+            needed[path.stem] = [node.module.split(".")[1] for node in nodes if isinstance(node, ast.ImportFrom)]
+        ahead = []
+        while len(ahead) < len(needed):
+            free = [name for name in needed if name not in ahead and all(part in ahead for part in needed[name])]
+            self.assertTrue(free, sorted(set(needed) - set(ahead)))
+            ahead += free
 
 
 if __name__ == "__main__":

@@ -43,3 +43,8 @@ def depth(w, state):
 def halved(state, k):
     """All words without their k lowest bits."""
     return tuple([word >> k for word in state])
+
+
+def doubled(w, state):
+    """All words twice, modulo 2 ** w."""
+    return tuple([(word << 1) % (1 << w) for word in state])

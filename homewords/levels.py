@@ -20,6 +20,29 @@ def level_signs(n, w, table, k):
     return tuple([sign_of(_moved_behind(n, w, table, k, low)) for low in all_states(n, k)])
 
 
+def is_triangular(n, w, table, k):
+    """Whether any two states that are alike below m stay so, for each m from 1 to k + 1."""
+    # No two states are alike below w.
+    for m in range(1, min(k + 2, w)):
+        if parted(n, w, table, m) is not None:
+            return False
+    return True
+
+
+def parted(n, w, table, m):
+    """Two states that are alike below m and have images that are not; None if there are none."""
+    led_to = {}
+    for state in all_states(n, w):
+        low = low_part(state, m)
+        image = low_part(led(n, w, table, state), m)
+        # The low part is a state, too, and comes first of all that have it: all others are held against it.
+        if low not in led_to:
+            led_to[low] = image
+        if led_to[low] != image:
+            return low, state
+    return None
+
+
 def _moved_behind(n, w, table, k, low):
     """What moved returns, of a table that is triangular up to k."""
     below = columns_of(k, low)
@@ -28,17 +51,5 @@ def _moved_behind(n, w, table, k, low):
 
 
 def _check_triangular(n, w, table, k):
-    """Unfit unless states that are alike below m stay so, for each m from 1 to k + 1."""
-    for m in range(1, k + 2):
-        if not _stay_alike(n, w, table, m):
-            raise Unfit()
-
-
-def _stay_alike(n, w, table, m):
-    """Whether any two states that are alike below m have images that are alike below m."""
-    for state in all_states(n, w):
-        # All that are alike below m share one low part, which is a state itself: each is held against this one.
-        shared = led(n, w, table, low_part(state, m))
-        if low_part(led(n, w, table, state), m) != low_part(shared, m):
-            return False
-    return True
+    if not is_triangular(n, w, table, k):
+        raise Unfit()

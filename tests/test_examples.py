@@ -1,5 +1,6 @@
-"""The examples of the document, word for word."""
+"""The examples of the document, word for word, and those of README.md."""
 
+import pathlib
 import unittest
 
 from tests.examples import run_examples
@@ -77,6 +78,44 @@ PART_D_LEVELS = """
 raises Unfit()
 """
 
+PART_D_PAPERS = PART_D_LEVELS[:PART_D_LEVELS.rindex(">>> level_signs")] + """
+>>> from homewords.marks import asked, mark_paper
+>>> [asked(3, 2, table) for table in (still(3, 2), both_bits, plus, one, swapped)]
+['bits', 'bits', 'sums', 'all', None]
+>>> mark_paper(3, 2, "sums", plus), mark_paper(3, 2, "all", plus), mark_paper(4, 1, "bits", deed_table(4, 1, ("and", 0, 1, 2)))
+(None, None, None)
+>>> from homewords.papers import paper_holds
+>>> top = (32,) + still(3, 2)[1:32] + (0,) + still(3, 2)[33:]
+>>> level_signs(3, 2, top, 1), paper_holds(3, 2, "all", top, ("unlike", 1, (0, 0, 0), 0, (0, 0, 0))), paper_holds(3, 2, "all", top, ("odd", 1, (0, 0, 0)))
+((1, 0, 0, 0, 0, 0, 0, 0), True, False)
+>>> [paper_holds(3, 2, "all", swapped, value) for value in (("sees", 1, (0, 0, 0), (2, 0, 0)), ("sees", 1, (0, 0, 0), (1, 0, 0)), ("sees", 0, (0, 0, 0), (2, 0, 0)), ["sees", 1, (0, 0, 0), (2, 0, 0)], None)]
+[True, False, False, False, False]
+>>> paper_holds(3, 2, "sums", one, ("doubles", (0, 0, 0))), paper_holds(3, 2, "all", one, ("doubles", (0, 0, 0))), paper_holds(3, 2, "sums", plus, ("doubles", (1, 1, 0)))
+(True, False, False)
+>>> paper_holds(3, 2, "bits", plus, ("nought", 1, (1, 1, 0))), paper_holds(3, 2, "bits", plus, ("columns", 1, (1, 1, 0), 0, (0, 0, 0))), paper_holds(3, 2, "bits", both_bits, ("columns", 0, (1, 1, 0), 1, (2, 2, 0)))
+(True, True, False)
+>>> turned = (0, 2, 1) + still(4, 1)[3:]
+>>> [paper_holds(4, 1, language, turned, value) for language, value in (("bits", ("odd",)), ("all", ("odd", 0, (0, 0, 0, 0))), ("sums", ("odd",)))]
+[True, True, False]
+>>> from homewords.sizes import table_count
+>>> [table_count(n, 1, language) for n in (3, 4) for language in ("bits", "sums", "all")]
+[5040, 5040, 40320, 653837184000, 653837184000, 10461394944000]
+>>> table_count(3, 2, "bits"), table_count(3, 2, "sums") == 5040 * 20160 ** 7, table_count(3, 2, "all") == 2 * 20160 ** 9
+(5040, True, True)
+"""
+
+PART_E_COLUMNS = """
+>>> from homewords.columnwriting import column_program
+>>> from homewords.doing import led, table_of
+>>> swap = column_program(3, (0, 1, 2, 7, 4, 5, 6, 3))
+>>> [led(3, 2, table_of(3, 2, swap), state) for state in ((1, 1, 0), (1, 1, 1), (1, 0, 1), (3, 2, 0), (2, 3, 2))]
+[(1, 1, 1), (1, 1, 0), (1, 0, 1), (3, 2, 2), (2, 3, 0)]
+>>> column_program(4, (0, 1, 2, 7, 4, 5, 6, 3) + tuple(range(8, 16)))
+raises Unfit()
+"""
+
+README = pathlib.Path(__file__).resolve().parent.parent / "README.md"
+
 
 class ExamplesTest(unittest.TestCase):
     def test_part_a(self):
@@ -90,6 +129,19 @@ class ExamplesTest(unittest.TestCase):
 
     def test_part_d_levels(self):
         run_examples(self, PART_D_LEVELS, {})
+
+    def test_part_d_papers(self):
+        run_examples(self, PART_D_PAPERS, {})
+
+    def test_part_e_columns(self):
+        run_examples(self, PART_E_COLUMNS, {})
+
+    def test_readme(self):
+        text = README.read_text(encoding="utf-8")
+        text = text[text.index("## How to use it"):text.index("## How to run its tests")]
+        rows = [row[4:] for row in text.splitlines() if row.startswith("    ")]
+        self.assertGreater(len(rows), 20)
+        run_examples(self, "\n".join(rows), {})
 
 
 if __name__ == "__main__":

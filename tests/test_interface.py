@@ -6,7 +6,7 @@ import inspect
 import unittest
 
 from homewords import bounds, errors
-from tests.samples import deeds, programs, states, triangular_tables
+from tests.samples import deeds, drawn_tables, programs, states, triangular_tables
 
 BOUNDS = {
     "MAX_WORDS": 8, "MAX_WIDTH": 64, "MAX_BITS": 8, "MAX_TERMS": 1000, "MAX_ROW": 400, "MAX_DEEP": 12,
@@ -37,8 +37,19 @@ FUNCTIONS = (
     ("doing", "led", {"n": 3, "w": 1, "table": (0, 3, 6, 5, 4, 7, 2, 1), "state": (0, 0, 1)}),
     ("levels", "moved", {"n": 3, "w": 1, "table": (0, 3, 6, 5, 4, 7, 2, 1), "k": 0, "low": (0, 0, 0)}),
     ("levels", "level_signs", {"n": 3, "w": 1, "table": (0, 3, 6, 5, 4, 7, 2, 1), "k": 0}),
+    ("marks", "mark_paper", {"n": 3, "w": 1, "language": "sums", "table": (3, 0, 6, 5, 4, 7, 2, 1)}),
+    ("marks", "asked", {"n": 3, "w": 1, "table": (0, 3, 6, 5, 4, 7, 2, 1)}),
+    ("papers", "paper_holds", {
+        "n": 3, "w": 1, "language": "sums", "table": (3, 0, 6, 5, 4, 7, 2, 1), "value": ("doubles", (0, 0, 1)),
+    }),
+    ("sizes", "table_count", {"n": 4, "w": 2, "language": "sums"}),
+    ("columnwriting", "column_program", {"n": 3, "moves": (0, 3, 6, 5, 4, 7, 2, 1)}),
 )
-# Functions that return tuples of integers; the others return integers, but for language_of.
+# Functions that return something else than integers.
+KINDS = {
+    "language_of": str, "asked": str, "mark_paper": tuple, "paper_holds": bool, "column_program": tuple,
+}
+# Functions that return tuples of integers.
 TUPLES = (
     "columns_of", "state_of", "low_part", "halved", "done", "undone", "run", "still", "deed_table", "both",
     "undone_table", "table_of", "led", "moved", "level_signs",
@@ -127,9 +138,9 @@ class FunctionsTest(unittest.TestCase):
     def test_kinds_of_results(self):
         for function, arguments in self.called():
             result = function(**arguments)
-            kind = tuple if function.__name__ in TUPLES else str if function.__name__ == "language_of" else int
-            self.assertIs(result.__class__, kind)
-            if kind is tuple:
+            name = function.__name__
+            self.assertIs(result.__class__, tuple if name in TUPLES else KINDS.get(name, int), name)
+            if name in TUPLES:
                 self.assertEqual({item.__class__ for item in result}, {int})
 
     def test_equal_calls_twice_and_arguments_stay(self):
@@ -193,6 +204,32 @@ class FunctionsTest(unittest.TestCase):
             with self.assertRaises(errors.Unfit) as caught:
                 levels.level_signs(n=3, w=2, table=unfit, k=1)
             self.assertEqual((vars(caught.exception), repr(unfit)), ({}, before))
+
+    def test_marks_and_papers_twice(self):
+        marks, papers = (importlib.import_module("homewords." + name) for name in ("marks", "papers"))
+        for table in triangular_tables(3, 2, 3) + drawn_tables(3, 2, 2):
+            before = repr(table)
+            for language in ("bits", "sums", "all"):
+                paper = marks.mark_paper(3, 2, language, table)
+                kept = repr(paper)
+                again = marks.mark_paper(table=copy.deepcopy(table), language=language, w=2, n=3)
+                self.assertEqual((again, repr(paper)), (paper, kept))
+                # What was returned may be handed in, with a part changed, too.
+                for value in (paper, paper[:-1] + (list(paper[-1:]),), list(paper), ("odd",) + paper):
+                    whole = repr(value)
+                    held = papers.paper_holds(n=3, w=2, language=language, table=table, value=value)
+                    self.assertEqual(held, value is paper)
+                    self.assertEqual((papers.paper_holds(3, 2, language, table, value), repr(value)), (held, whole))
+            self.assertEqual((marks.asked(table=table, w=2, n=3), repr(table)), (marks.asked(3, 2, table), before))
+
+    def test_odd_columns_twice(self):
+        column_program = importlib.import_module("homewords.columnwriting").column_program
+        moves = (0, 2, 1) + tuple(range(3, 16))
+        before = repr(moves)
+        for _ in range(2):
+            with self.assertRaises(errors.Unfit) as caught:
+                column_program(moves=moves, n=4)
+            self.assertEqual((vars(caught.exception), repr(moves)), ({}, before))
 
 
 if __name__ == "__main__":

@@ -10,6 +10,8 @@ BARRED = (
     ast.Global, ast.AsyncFunctionDef, ast.AsyncFor, ast.AsyncWith, ast.Await, ast.Import, ast.Set, ast.SetComp,
     ast.Div, ast.Try, ast.With,
 )
+# What may be imported from outside the package; it is called by its bare name only.
+LIBRARY = {"math": ("factorial",)}
 BUILTINS = (
     "len", "range", "enumerate", "zip", "min", "max", "sum", "abs", "sorted", "reversed", "int", "str", "bool", "list",
     "tuple", "dict", "isinstance", "any", "all", "divmod", "super", "ValueError",
@@ -65,8 +67,59 @@ class LanguageTest(unittest.TestCase):
             for node in ast.walk(ast.parse(path.read_text(encoding="utf-8"))):
                 if isinstance(node, ast.ImportFrom):
                     self.assertEqual(node.level, 0, path)
-                    self.assertTrue((PACKAGE.parent / (node.module.replace(".", "/") + ".py")).is_file(), path)
                     self.assertEqual([alias.asname for alias in node.names], [None] * len(node.names), path)
+                    if node.module in LIBRARY:
+                        self.assertLessEqual({alias.name for alias in node.names}, set(LIBRARY[node.module]), path)
+                    else:
+                        self.check_own_names(path, node)
+
+    def check_own_names(self, path, node):
+        """What is imported stands in that very file of the package."""
+        source = PACKAGE.parent / (node.module.replace(".", "/") + ".py")
+        self.assertTrue(source.is_file(), path)
+        defined = set()
+        for row in ast.parse(source.read_text(encoding="utf-8")).body:
+            if isinstance(row, (ast.FunctionDef, ast.ClassDef)):
+                defined.add(row.name)
+            elif isinstance(row, ast.Assign):
+                defined.add(row.targets[0].id)
+        self.assertLessEqual({alias.name for alias in node.names}, defined, path)
+
+    def test_library_names_are_only_called(self):
+        names = [name for told in LIBRARY.values() for name in told]
+        for path in files():
+            tree = ast.parse(path.read_text(encoding="utf-8"))
+            called = [node.func for node in ast.walk(tree) if isinstance(node, ast.Call) and not node.keywords]
+            for node in ast.walk(tree):
+                if isinstance(node, ast.Name) and node.id in names:
+                    self.assertIn(node, called, path)
+
+    def test_each_name_of_a_file_is_used(self):
+        for path in files():
+            tree = ast.parse(path.read_text(encoding="utf-8"))
+            read = {node.id for node in ast.walk(tree) if isinstance(node, ast.Name) and isinstance(node.ctx, ast.Load)}
+            for node in tree.body:
+                if isinstance(node, ast.ImportFrom):
+                    self.assertLessEqual({alias.name for alias in node.names}, read, path)
+                if isinstance(node, ast.FunctionDef) and node.name.startswith("_"):
+                    self.assertIn(node.name, read, path)
+
+    def test_methods_of_builtin_values(self):
+        # L25 lists those that may be called; own methods have names that no builtin value's method has.
+        told = (
+            "append clear copy count endswith extend find get index insert isalnum isalpha isdigit islower isspace "
+            "isupper items join keys ljust lower lstrip partition pop remove replace reverse rfind rjust rpartition "
+            "rsplit rstrip setdefault split splitlines startswith strip update upper values zfill bit_length"
+        ).split()
+        own = {"__init__"}
+        for path in files():
+            nodes = ast.walk(ast.parse(path.read_text(encoding="utf-8")))
+            own |= {node.name for node in nodes if isinstance(node, ast.FunctionDef)}
+        # kept is a function that an object holds.
+        for path in files():
+            for node in ast.walk(ast.parse(path.read_text(encoding="utf-8"))):
+                if isinstance(node, ast.Call) and isinstance(node.func, ast.Attribute):
+                    self.assertIn(node.func.attr, own | set(told) | {"kept"}, path)
 
     def test_expressions(self):
         for path in files():
@@ -106,7 +159,8 @@ class LanguageTest(unittest.TestCase):
         needed = {}
         for path in files():
             nodes = ast.walk(ast.parse(path.read_text(encoding="utf-8")))
-            needed[path.stem] = [node.module.split(".")[1] for node in nodes if isinstance(node, ast.ImportFrom)]
+            own = [node.module for node in nodes if isinstance(node, ast.ImportFrom) and node.module not in LIBRARY]
+            needed[path.stem] = [module.split(".")[1] for module in own]
         ahead = []
         while len(ahead) < len(needed):
             free = [name for name in needed if name not in ahead and all(part in ahead for part in needed[name])]

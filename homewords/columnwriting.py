@@ -49,7 +49,10 @@ class ColumnWriter:
 
 
 def column_program(n, moves):
-    """A program of "bits" by which each column goes to where moves has it; Unfit if none is that odd."""
+    """A program of "bits" by which each column goes to where moves has it.
+
+    Unfit from four words on, if moves is odd.
+    """
     if n > 3 and sign_of(moves):
         raise Unfit()
     pieces = Pieces()

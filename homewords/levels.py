@@ -22,7 +22,7 @@ def level_signs(n, w, table, k):
 
 def is_triangular(n, w, table, k):
     """Whether any two states that are alike below m stay so, for each m from 1 to k + 1."""
-    # No two states are alike below w.
+    # States that are alike below w are the same.
     for m in range(1, min(k + 2, w)):
         if parted(n, w, table, m) is not None:
             return False

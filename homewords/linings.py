@@ -21,10 +21,8 @@ def _to_one_bit(column, place):
     """Deeds that lead the column to its bit at the place alone, and leave those of lower bits alone."""
     deeds = []
     if not column >> place & 1:
-        # It has some bit above, as it is no sum of lower bits. What is higher may go elsewhere.
-        above = (column >> place).bit_length() - 1 + place
-        deeds.append(("xor", place, above))
-        column = column | 1 << place
+        # It has some bit above, as it is no sum of lower bits.
+        deeds.append(("xor", place, column.bit_length() - 1))
     for bit in range(column.bit_length()):
         if column >> bit & 1 and bit != place:
             deeds.append(("xor", bit, place))

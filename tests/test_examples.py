@@ -114,6 +114,75 @@ PART_E_COLUMNS = """
 raises Unfit()
 """
 
+PART_E_RINGS = """
+>>> from homewords.doing import led, table_of
+>>> from homewords.ringwriting import ring_program
+>>> ring = table_of(3, 2, ring_program(3, "sums", 7, 0, 1, 2))
+>>> [led(3, 2, ring, state) for state in ((1, 1, 1), (3, 1, 1), (1, 3, 1), (1, 1, 3), (1, 0, 1), (2, 0, 0))]
+[(3, 1, 1), (1, 3, 1), (1, 1, 1), (1, 1, 3), (1, 0, 1), (2, 0, 0)]
+>>> low = table_of(3, 2, ring_program(3, "all", 0, 1, 4, 6))
+>>> [led(3, 2, low, state) for state in ((2, 0, 0), (0, 0, 2), (0, 2, 2), (0, 0, 0), (2, 0, 1))]
+[(0, 0, 2), (0, 2, 2), (2, 0, 0), (0, 0, 0), (2, 0, 1)]
+>>> ring_program(3, "sums", 0, 1, 2, 4)
+raises Unfit()
+>>> ring_program(4, "all", 3, 5, 5, 6)
+raises Unfit()
+"""
+
+PART_E_WRITING = """
+>>> from homewords.doing import table_of
+>>> from homewords.marks import mark_paper
+>>> from homewords.tables import both, deed_table, still
+>>> from homewords.writing import written
+>>> some = both(deed_table(3, 2, ("add", 0, 1)), deed_table(3, 2, ("and", 2, 0, 1)))
+>>> [table_of(3, 2, written(3, 2, language, some)) == some for language in ("sums", "all")]
+[True, True]
+>>> more = deed_table(3, 2, ("one", 0))
+>>> table_of(3, 2, written(3, 2, "all", more)) == more, table_of(5, 1, written(5, 1, "bits", still(5, 1))) == still(5, 1)
+(True, True)
+"""
+
+PART_F_PAIRS = """
+>>> from homewords.columns import state_of
+>>> from homewords.pairpapers import pair_holds, pair_paper
+>>> some = (((1, 0, 0), (0, 1, 0)),)
+>>> deeper, apart = some + (((2, 0, 0), (2, 0, 0)),), some + (((3, 0, 0), (0, 0, 1)),)
+>>> [pair_paper(3, 2, "sums", value) for value in (some, ((some[0][0], some[0][0]),), (((2, 0, 0), (0, 0, 2)),), ())]
+[None, None, None, None]
+>>> [pair_holds(3, 2, word, deeper, ("agree", 0, 1)) for word in ("bits", "sums", "all")], pair_paper(3, 2, "all", deeper), pair_holds(3, 2, "bits", deeper, ("columns", 0, 0, 1, 1))
+([False, True, False], None, True)
+>>> pair_holds(3, 2, "all", apart, ("agree", 0, 1)), pair_holds(3, 2, "all", apart, ("agree", 1, 0)), pair_holds(3, 2, "sums", (((2, 0, 0), (1, 0, 0)),), ("depth", 0))
+(True, False, True)
+>>> each = [state_of(4, (column,)) for column in range(1, 16)]
+>>> turned = tuple(zip(each, each[1::-1] + each[2:]))
+>>> pair_holds(4, 1, "bits", turned, ("odd",)), pair_holds(4, 1, "sums", turned, ("odd", 0, (0, 0, 0, 0))), pair_holds(4, 1, "sums", turned[:-1], ("odd", 0, (0, 0, 0, 0))), pair_paper(4, 1, "sums", turned[:-2])
+(True, True, True, None)
+>>> low = [state_of(3, (column, 0)) for column in range(8)]
+>>> high = [state_of(3, (1, column)) for column in (1, 2, 3, 4, 5, 6, 7)]
+>>> rows = tuple(zip(low + high, low + high[1::-1] + high[2:]))
+>>> pair_holds(3, 2, "all", rows, ("unlike", 0, (0, 0, 0), 1, (1, 0, 0))), pair_holds(3, 2, "sums", rows, ("unlike", 1, (1, 0, 0), 0, (0, 0, 0))), pair_paper(3, 2, "all", rows[1:-2])
+(True, True, None)
+"""
+
+PART_F_FINISHING = PART_F_PAIRS + """
+>>> from homewords.finishing import finish_count, finished, tells
+>>> from homewords.marks import mark_paper
+>>> from homewords.states import state_number
+>>> found = finished(3, 2, "sums", some)
+>>> found[state_number(2, (1, 0, 0))] == state_number(2, (0, 1, 0)), mark_paper(3, 2, "sums", found)
+(True, None)
+>>> [finish_count(3, 1, word, ()) for word in ("bits", "sums", "all")], [finish_count(3, 1, word, some) for word in ("bits", "sums", "all")], finish_count(3, 2, "sums", some) == 2 * 360 * 2520 * 20160 ** 6
+([5040, 5040, 40320], [720, 720, 5040], True)
+>>> finish_count(4, 1, "sums", turned), finish_count(4, 1, "sums", turned[2:]), finish_count(4, 1, "all", turned[2:]), finish_count(3, 2, "sums", deeper)
+(0, 1, 3, 0)
+>>> tells(3, 2, "sums", some, (1, 0, 0)), tells(3, 2, "sums", some, (2, 0, 0)), tells(3, 2, "sums", some, (3, 0, 0)), tells(3, 2, "all", some, (2, 0, 0)), tells(3, 2, "bits", some, (3, 0, 0))
+((0, 1, 0), (0, 2, 0), None, None, (0, 3, 0))
+>>> tells(4, 1, "sums", turned[2:], (1, 0, 0, 0)), tells(4, 1, "bits", turned[2:], (0, 1, 0, 0)), tells(4, 1, "sums", turned[3:], (1, 0, 0, 0)), tells(4, 1, "all", turned[2:], (1, 0, 0, 0)), tells(4, 1, "sums", turned[3:], (1, 0, 1, 0))
+((1, 0, 0, 0), (0, 1, 0, 0), None, None, (1, 0, 1, 0))
+>>> tells(3, 2, "sums", deeper, (1, 0, 0))
+raises Unfit()
+"""
+
 README = pathlib.Path(__file__).resolve().parent.parent / "README.md"
 
 
@@ -135,6 +204,18 @@ class ExamplesTest(unittest.TestCase):
 
     def test_part_e_columns(self):
         run_examples(self, PART_E_COLUMNS, {})
+
+    def test_part_e_rings(self):
+        run_examples(self, PART_E_RINGS, {})
+
+    def test_part_e_writing(self):
+        run_examples(self, PART_E_WRITING, {})
+
+    def test_part_f_pairs(self):
+        run_examples(self, PART_F_PAIRS, {})
+
+    def test_part_f_finishing(self):
+        run_examples(self, PART_F_FINISHING, {})
 
     def test_readme(self):
         text = README.read_text(encoding="utf-8")

@@ -44,15 +44,27 @@ FUNCTIONS = (
     }),
     ("sizes", "table_count", {"n": 4, "w": 2, "language": "sums"}),
     ("columnwriting", "column_program", {"n": 3, "moves": (0, 3, 6, 5, 4, 7, 2, 1)}),
+    ("ringwriting", "ring_program", {"n": 3, "language": "sums", "column": 5, "u": 1, "v": 2, "z": 7}),
+    ("writing", "written", {"n": 3, "w": 1, "language": "all", "table": (3, 0, 6, 5, 4, 7, 2, 1)}),
+    ("pairpapers", "pair_paper", {"n": 3, "w": 2, "language": "sums", "pairs": (((1, 2, 3), (2, 0, 2)),)}),
+    ("pairpapers", "pair_holds", {
+        "n": 3, "w": 2, "language": "sums", "pairs": (((1, 2, 3), (2, 0, 2)),), "value": ("depth", 0),
+    }),
+    ("finishing", "finished", {"n": 3, "w": 2, "language": "sums", "pairs": (((1, 2, 3), (1, 1, 0)),)}),
+    ("finishing", "finish_count", {"n": 3, "w": 2, "language": "sums", "pairs": (((1, 2, 3), (1, 1, 0)),)}),
+    ("finishing", "tells", {
+        "n": 3, "w": 2, "language": "sums", "pairs": (((1, 2, 3), (1, 1, 0)),), "state": (2, 0, 2),
+    }),
 )
 # Functions that return something else than integers.
 KINDS = {
     "language_of": str, "asked": str, "mark_paper": tuple, "paper_holds": bool, "column_program": tuple,
+    "ring_program": tuple, "written": tuple, "pair_paper": tuple, "pair_holds": bool,
 }
 # Functions that return tuples of integers.
 TUPLES = (
     "columns_of", "state_of", "low_part", "halved", "done", "undone", "run", "still", "deed_table", "both",
-    "undone_table", "table_of", "led", "moved", "level_signs",
+    "undone_table", "table_of", "led", "moved", "level_signs", "finished", "tells",
 )
 
 VALUES = (
@@ -221,6 +233,43 @@ class FunctionsTest(unittest.TestCase):
                     self.assertEqual(held, value is paper)
                     self.assertEqual((papers.paper_holds(3, 2, language, table, value), repr(value)), (held, whole))
             self.assertEqual((marks.asked(table=table, w=2, n=3), repr(table)), (marks.asked(3, 2, table), before))
+
+    def test_errors_of_writing_and_finishing_twice(self):
+        swapped = (1, 0) + tuple(range(2, 64))
+        pairs = (((1, 2, 3), (2, 0, 2)), ((1, 0, 1), (1, 1, 1)))
+        for module, name, arguments, error in (
+            ("ringwriting", "ring_program", {"n": 4, "language": "sums", "column": 0, "u": 1, "v": 2, "z": 3}, errors.Unfit),
+            ("ringwriting", "ring_program", {"n": 3, "language": "all", "column": 1, "u": 2, "v": 3, "z": 2}, errors.Unfit),
+            ("writing", "written", {"n": 3, "w": 2, "language": "bits", "table": swapped}, errors.Barred),
+            ("writing", "written", {"n": 3, "w": 2, "language": "all", "table": swapped}, errors.Barred),
+            ("finishing", "finished", {"n": 3, "w": 2, "language": "sums", "pairs": pairs}, errors.Barred),
+            ("finishing", "tells", {"n": 3, "w": 2, "language": "all", "pairs": pairs, "state": (1, 1, 1)}, errors.Unfit),
+        ):
+            function = getattr(importlib.import_module("homewords." + module), name)
+            before = repr(arguments)
+            found = []
+            for called in (arguments, copy.deepcopy(arguments), dict(reversed(list(arguments.items())))):
+                with self.assertRaises(error) as caught:
+                    function(**called)
+                found.append((caught.exception.__class__, vars(caught.exception)))
+            with self.assertRaises(error):
+                function(*arguments.values())
+            self.assertEqual((found, repr(arguments)), (found[:1] * 3, before))
+
+    def test_papers_are_handed_in_where_others_belong(self):
+        # A paper of a table is none of pairs, and a program, a table or a count is none of either.
+        modules = {name: importlib.import_module("homewords." + name) for name in ("papers", "pairpapers", "writing", "marks")}
+        table = (1, 0) + tuple(range(2, 64))
+        pairs = (((1, 2, 3), (2, 0, 2)), ((1, 0, 1), (1, 1, 1)))
+        for language in ("bits", "sums", "all"):
+            paper = modules["marks"].mark_paper(3, 2, language, table)
+            other = modules["pairpapers"].pair_paper(3, 2, language, pairs)
+            self.assertTrue(modules["papers"].paper_holds(3, 2, language, table, paper))
+            self.assertTrue(modules["pairpapers"].pair_holds(3, 2, language, pairs, other))
+            for value in (other, table, pairs, modules["writing"].written(3, 1, "all", table[:8])):
+                self.assertIs(modules["papers"].paper_holds(3, 2, language, table, value), False)
+            for value in (paper, table, pairs, modules["writing"].written(3, 1, "all", table[:8])):
+                self.assertIs(modules["pairpapers"].pair_holds(3, 2, language, pairs, value), False)
 
     def test_odd_columns_twice(self):
         column_program = importlib.import_module("homewords.columnwriting").column_program
